@@ -1,0 +1,73 @@
+"""The program's one way in: a list of calls on a new object, and the list of what they answer."""
+
+from farwordsbook.book import Book
+from farwordsbook.changes import again, back, begin, close, fill, goal, move, note, put, rest, strike, swap, take
+from farwordsbook.looks import strength, sums, tilt, twos, uneven, words
+from farwordsbook.reading import read_calls
+
+
+def answers(calls):
+    """For each call, in order, how many numbers are answered, then these."""
+    book = Book()
+    found = []
+    for call in read_calls(calls):
+        answer = answer_call(book, call[0], call[1])
+        found.append(len(answer))
+        found.extend(answer)
+    return found
+
+
+def answer_call(book, name, told):
+    """What one call answers; ahead of all else, only begin is answered till it is answered 0."""
+    if name == "begin":
+        return begin(book, told[0], told[1])
+    if book.bits == 0:
+        return [-61]
+    return answer_change(book, name, told)
+
+
+def answer_change(book, name, told):
+    """What a call answers that changes words, goal or report, takes back or does again; others are handed on."""
+    if name == "put":
+        return put(book, told[0])
+    if name == "take":
+        return take(book, told[0])
+    if name == "rest":
+        return rest(book)
+    if name == "move":
+        return move(book, told[0])
+    if name == "swap":
+        return swap(book, told[0], told[1])
+    if name == "close":
+        return close(book)
+    if name == "fill":
+        return fill(book)
+    if name == "goal":
+        return goal(book, told[0])
+    if name == "note":
+        return note(book, told[0], told[1])
+    if name == "strike":
+        return strike(book, told[0])
+    if name == "back":
+        return back(book)
+    if name == "again":
+        return again(book)
+    return answer_look(book, name, told)
+
+
+def answer_look(book, name, told):
+    """What a call answers that only looks."""
+    if name == "words":
+        return words(book)
+    if name == "twos":
+        return twos(book)
+    if name == "sums":
+        return sums(book)
+    if name == "tilt":
+        return tilt(book, told[0])
+    if name == "strength":
+        return strength(book)
+    if name == "uneven":
+        return uneven(book)
+    # The calls that aren't built yet are refused with a number the document gives no meaning, so none is mistaken.
+    return [-38]

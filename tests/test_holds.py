@@ -1,0 +1,141 @@
+"""What holds, points a, c and d, as far as the calls that are there go."""
+
+import random
+import unittest
+
+from lines import ask, last, puts
+from model import hit, in_the_way, ones, places_of, sums, tilt
+
+
+def all_notes(bits):
+    """A call to note for each saying that there is."""
+    numbered = [("note", kind, [number]) for kind in range(4) for number in range(bits + 1)]
+    return numbered + [("note", 4, [])] + [("note", 5, [u]) for u in range(2 ** bits)]
+
+
+def sets_of_words(bits, seed, many):
+    """Some sets of words, the closed and the odd ones among them."""
+    chance = random.Random(seed)
+    found = [(), (0,), tuple(range(2 ** bits))]
+    for size in range(many):
+        found.append(tuple(chance.sample(range(2 ** bits), chance.randint(1, 2 ** bits - 1))))
+        basis = chance.sample(range(1, 2 ** bits), min(2, 2 ** bits - 1))
+        span = {0}
+        for word in basis:
+            span |= {word ^ other for other in span}
+        step = chance.randrange(2 ** bits)
+        found.append(tuple(sorted(span)))
+        found.append(tuple(sorted(word ^ step for word in span)))
+    return found
+
+
+def so(bits, words, note):
+    """Whether a saying is so, told by noting it."""
+    return last(("begin", bits, 1), *puts(*words), note) == [0]
+
+
+class InTheReport(unittest.TestCase):
+    """Point a: for each saying and each change of words, a line is struck just if it can't be noted anew."""
+
+    def changed(self, bits, words, note, change):
+        """Whether the saying was so, whether it's struck behind the change, and what noting it anew answers then."""
+        found = ask(("begin", bits, 2), *puts(*words), note, change, note)
+        first, answer, anew = found[-3:]
+        return first == [0], answer[1:] == [0], anew
+
+    def changes(self, words):
+        free = [word for word in range(8) if word not in words]
+        found = [("rest",), ("move", 0), ("move", 3), ("move", 5), ("swap", 0, 2), ("swap", 1, 2), ("close",), ("fill",)]
+        return found + [("put", word) for word in free[:2]] + [("take", word) for word in words[:2]]
+
+    def test_just_what_is_not_so_is_struck(self):
+        for words in sets_of_words(3, 5, 4):
+            for change in self.changes(words):
+                for note in all_notes(3):
+                    was, struck, anew = self.changed(3, words, note, change)
+                    if was:
+                        self.assertEqual([-13] if struck else [-17], anew, (words, note, change))
+                    else:
+                        self.assertFalse(struck)
+
+    def test_which_lines_moves_swaps_and_rest_may_strike(self):
+        may = {"move": (4,), "swap": (5,), "rest": (0, 2, 4)}
+        for words in sets_of_words(3, 7, 6):
+            for change in self.changes(words):
+                for note in all_notes(3):
+                    if change[0] in may and self.changed(3, words, note, change)[1]:
+                        self.assertIn(note[1], may[change[0]], (words, note, change))
+
+
+class WithoutLooking(unittest.TestCase):
+    """Point c, each side as the program tells it, and by the model."""
+
+    def test_strength_by_the_sums(self):
+        for bits in (1, 2, 3, 4):
+            for words in sets_of_words(bits, bits, 5):
+                if len(words) > 40:
+                    continue
+                strength, told = ask(("begin", bits, 1), *puts(*words), ("strength",), ("sums",))[-2:]
+                self.assertEqual(sums(bits, words), told[1:])
+                for t in range(bits + 1):
+                    self.assertEqual(not any(told[2:t + 2]), strength[0] >= t, (words, t))
+                    self.assertEqual(strength[0] >= t, so(bits, words, ("note", 1, [t])), (words, t))
+
+    def test_sums_by_the_tilts(self):
+        for words in sets_of_words(3, 11, 5):
+            told = last(("begin", 3, 1), *puts(*words), ("sums",))[1:]
+            tilts = [last(("begin", 3, 1), *puts(*words), ("tilt", u))[1] for u in range(8)]
+            self.assertEqual([sum(tilts[u] ** 2 for u in places_of(3, k)) for k in range(4)], told)
+
+    def test_even_places_by_the_tilts(self):
+        for words in sets_of_words(3, 13, 5):
+            for u in range(8):
+                tilting = [v for v in range(1, 8) if ones(v) <= ones(u) and tilt(words, v) != 0]
+                self.assertEqual(not tilting, so(3, words, ("note", 5, [u])), (words, u))
+
+    def test_hit_evenly_by_what_is_in_the_way(self):
+        for words in sets_of_words(3, 17, 5):
+            for r in range(4):
+                evenly = so(3, words, ("note", 3, [r]))
+                self.assertEqual(not in_the_way(3, words, r), evenly, (words, r))
+                self.assertEqual(len(set(hit(3, words, r))) == 1, evenly, (words, r))
+
+    def test_hit_evenly_twice(self):
+        words = (0, 1, 6, 7)
+        self.assertEqual({2}, set(hit(3, words, 1)))
+        self.assertTrue(so(3, words, ("note", 3, [1])))
+        self.assertFalse(so(3, words, ("note", 3, [0])))
+
+
+class AsItWas(unittest.TestCase):
+    """Point d: what's taken back and done again is as it was."""
+
+    LOOKS = (("words",), ("twos",), ("sums",), ("strength",), ("uneven",))
+
+    def looked(self, *calls):
+        """What the looks answer behind the calls, and the goal and the report, by calls that are then refused."""
+        notes = all_notes(3)
+        return (ask(*calls, *self.LOOKS)[-len(self.LOOKS):], last(*calls, ("goal", 1)),
+                [last(*calls, note) for note in notes], last(*calls, ("strike", 0)))
+
+    def test_each_change(self):
+        begun = (("begin", 3, 2), *puts(0, 7), ("note", 0, [3]), ("note", 4, []), ("note", 1, [1]), ("note", 2, [1]))
+        for change in (("put", 1), ("take", 0), ("rest",), ("move", 1), ("swap", 0, 1), ("close",), ("fill",),
+                       ("goal", 3), ("note", 3, [1]), ("strike", 2)):
+            before = self.looked(*begun)
+            behind = self.looked(*begun, change)
+            self.assertEqual(before, self.looked(*begun, change, ("back",)), change)
+            self.assertEqual(behind, self.looked(*begun, change, ("back",), ("again",)), change)
+            self.assertEqual(before, self.looked(*begun, change, ("back",), ("again",), ("back",)), change)
+
+    def test_refused_changes_nothing(self):
+        begun = (("begin", 3, 2), *puts(0, 7), ("note", 0, [3]), ("note", 4, []), ("note", 1, [1]), ("note", 2, [1]))
+        before = self.looked(*begun)
+        for call in (("begin", 3, 4), ("put", 7), ("put", 8), ("take", 1), ("take", 8), ("move", 8), ("swap", 0, 3),
+                     ("goal", 0), ("goal", 4), ("note", 0, [4]), ("note", 0, []), ("note", 6, []), ("note", 1, [2]),
+                     ("note", 4, []), ("strike", 4), ("again",), ("tilt", 8), *self.LOOKS, ("tilt", 7)):
+            self.assertEqual(before, self.looked(*begun, call), call)
+
+
+if __name__ == "__main__":
+    unittest.main()
