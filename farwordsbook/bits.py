@@ -2,8 +2,11 @@
 
 from farwordsbook.book import Book
 from farwordsbook.changes import again, back, begin, close, fill, goal, move, note, put, rest, strike, swap, take
-from farwordsbook.looks import strength, sums, tilt, twos, uneven, words
+from farwordsbook.limits import best_proof, bound, proves, spread
+from farwordsbook.looks import held, least, mend, more, off, strength, sums, tilt, twos, uneven, words
 from farwordsbook.reading import read_calls
+from farwordsbook.reports import all_of, line, report, so, state
+from farwordsbook.rounds import evenly, in_the_way, radius, reach
 
 
 def answers(calls):
@@ -56,7 +59,7 @@ def answer_change(book, name, told):
 
 
 def answer_look(book, name, told):
-    """What a call answers that only looks."""
+    """What a call answers that looks at the words and how far apart they are; others are handed on."""
     if name == "words":
         return words(book)
     if name == "twos":
@@ -69,5 +72,48 @@ def answer_look(book, name, told):
         return strength(book)
     if name == "uneven":
         return uneven(book)
-    # The calls that aren't built yet are refused with a number the document gives no meaning, so none is mistaken.
-    return [-38]
+    if name == "least":
+        return least(book)
+    if name == "off":
+        return off(book, told[0])
+    if name == "mend":
+        return mend(book, told[0])
+    if name == "more":
+        return more(book)
+    if name == "held":
+        return held(book)
+    return answer_bound(book, name, told)
+
+
+def answer_bound(book, name, told):
+    """What a call answers that tells of how many words there can be, or of balls; others are handed on."""
+    if name == "bound":
+        return bound(book)
+    if name == "proves":
+        return proves(book, told[0])
+    if name == "best_proof":
+        return best_proof(book)
+    if name == "spread":
+        return spread(book)
+    if name == "evenly":
+        return evenly(book, told[0])
+    if name == "in_the_way":
+        return in_the_way(book, told[0])
+    if name == "radius":
+        return radius(book)
+    if name == "reach":
+        return reach(book)
+    return answer_report(book, name, told)
+
+
+def answer_report(book, name, told):
+    """What a call answers that looks at sayings, at the report or at all that is there."""
+    if name == "so":
+        return so(book, told[0], told[1])
+    if name == "all_of":
+        return all_of(book, told[0])
+    if name == "report":
+        return report(book)
+    if name == "line":
+        return line(book, told[0])
+    return state(book)

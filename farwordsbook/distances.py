@@ -30,11 +30,15 @@ def sign_sums(bits, told):
     return found
 
 
-def sum_twos(bits, words):
-    """The 0-th sum, the first and so on."""
-    counts = count_twos(bits, words)
+def sums_of(bits, counts):
+    """The 0-th sum, the first and so on, of so many at distance 0, 1 and so on."""
     found = [0] * (bits + 1)
     for apart in range(bits + 1):
         signs = sign_sums(bits, apart)
         found = [found[size] + counts[apart] * signs[size] for size in range(bits + 1)]
     return found
+
+
+def sum_twos(bits, words):
+    """The sums of the twos, from the 0-th on."""
+    return sums_of(bits, count_twos(bits, words))

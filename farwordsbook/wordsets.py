@@ -73,9 +73,19 @@ def is_closed(words):
     return closed(words) == words
 
 
+def distances_from(word, words):
+    """How far each of the words is from the word, in their order."""
+    return [distance(word, other) for other in words]
+
+
 def is_far(word, words, goal):
     """Whether the word is at a distance of the goal or more from all of the words."""
-    return all([distance(word, other) >= goal for other in words])
+    return all([apart >= goal for apart in distances_from(word, words)])
+
+
+def far_words(bits, words, goal):
+    """All words that are at a distance of the goal or more from all of the words, rising."""
+    return [word for word in range(1 << bits) if is_far(word, words, goal)]
 
 
 def filled(bits, words, goal):

@@ -11,6 +11,17 @@ NUMBERS = {
     "report": 34, "line": 35, "state": 36,
 }
 
+TOP = 2147483647
+
+# Every call that only looks, as told and as refused, for three bits and some words.
+LOOKS = (
+    ("words",), ("twos",), ("sums",), ("tilt", 3), ("tilt", 8), ("strength",), ("uneven",), ("least",), ("off", 2),
+    ("off", 8), ("mend", 2), ("mend", 8), ("more",), ("bound",), ("proves", [1, 1, 1, 1]), ("proves", [1, 0, 0, 0]),
+    ("proves", []), ("best_proof",), ("spread",), ("held",), ("evenly", 1), ("evenly", 0), ("evenly", 4),
+    ("in_the_way", 1), ("in_the_way", 4), ("radius",), ("reach",), ("so", 0, [1]), ("so", 4, []), ("so", 1, []),
+    ("all_of", 5), ("all_of", 4), ("report",), ("line", 0), ("line", 8), ("state",),
+)
+
 
 def flat(calls):
     """Calls such as ("put", 3) or ("note", 0, [2]) as one list of whole numbers."""
@@ -53,3 +64,10 @@ def last(*calls):
 def puts(*words):
     """A call to put for each of the words."""
     return [("put", word) for word in words]
+
+
+def look(bits, words, *call, goal=1):
+    """What a call answers where these words are there."""
+    if len(words) == 2 ** bits:
+        return last(("begin", bits, goal), ("rest",), call)
+    return last(("begin", bits, goal), *puts(*words), call)

@@ -1,6 +1,10 @@
 """The document's words once more, as plainly and slowly as they stand, to hold the program's answers against."""
 
+from fractions import Fraction
+from functools import lru_cache
 from itertools import combinations
+
+from vertices import vertices
 
 
 def ones(word):
@@ -68,6 +72,65 @@ def in_the_way(bits, words, r):
     return found
 
 
+def plain_bounds(bits, d):
+    """Each plain bound by its name, where it's told."""
+    found = {
+        "balls": 2 ** bits // sum(1 for x in range(2 ** bits) if far(0, x) <= (d - 1) // 2),
+        "cutting": 2 ** (bits - d + 1),
+    }
+    if 2 * d > bits:
+        found["mean"] = 2 * d // (2 * d - bits)
+    if d % 2 == 1 and 2 * (d + 1) > bits + 1:
+        found["evening"] = 2 * (d + 1) // (2 * (d + 1) - (bits + 1))
+    return found
+
+
+def come_to(bits, numbers, i):
+    return sum(numbers[k] * sign_sum(bits, k, i) for k in range(bits + 1))
+
+
+def is_proof(bits, d, numbers):
+    return (min(numbers) >= 0 and numbers[0] >= 1
+            and all(come_to(bits, numbers, i) <= 0 for i in range(d, bits + 1)))
+
+
+def spread_sums(bits, d, numbers):
+    """For each k from 1 on what isn't below 0 for a spread."""
+    return [sign_sum(bits, k, 0) + sum(number * sign_sum(bits, k, d + place) for place, number in enumerate(numbers))
+            for k in range(1, bits + 1)]
+
+
+def is_spread(bits, d, numbers):
+    return min(numbers) >= 0 and min(spread_sums(bits, d, numbers)) >= 0
+
+
+def unit(many, place):
+    return [int(other == place) for other in range(many)]
+
+
+@lru_cache(maxsize=None)
+def best_proof(bits, d):
+    """What the best proof comes to at 0, and its numbers but the first, by way of all corners there are."""
+    rows = [(unit(bits, place), 0) for place in range(bits)]
+    rows += [([-sign_sum(bits, k, i) for k in range(1, bits + 1)], -1) for i in range(d, bits + 1)]
+    return min((come_to(bits, [1] + point, 0), point) for point in vertices(rows))
+
+
+@lru_cache(maxsize=None)
+def greatest_spread(bits, d):
+    """The greatest spread's numbers, all together and 1, and they, likewise."""
+    many = bits - d + 1
+    rows = [(unit(many, place), 0) for place in range(many)]
+    rows += [([sign_sum(bits, k, i) for i in range(d, bits + 1)], sign_sum(bits, k, 0)) for k in range(1, bits + 1)]
+    less, point = min((-sum(point), point) for point in vertices(rows))
+    return 1 - less, point
+
+
+def told(*fractions):
+    """Fractions as they are told, one behind another."""
+    return [part for number in fractions for part in Fraction(number).as_integer_ratio()]
+
+
 def exchanged(word, i, j):
     swapped = {i: j, j: i}
     return sum(1 << swapped.get(bit, bit) for bit in ones(word))
@@ -125,7 +188,9 @@ class Model:
             return [0]
         if self.bits is None:
             return [-61]
-        if name in ("put", "take", "move", "tilt") and told[0] >= 2 ** self.bits:
+        if name in ("put", "take", "move", "tilt", "off", "mend") and told[0] >= 2 ** self.bits:
+            return [-22]
+        if name in ("evenly", "in_the_way") and told[0] > self.bits:
             return [-22]
         return getattr(self, "call_" + name)(*told)
 
@@ -217,3 +282,85 @@ class Model:
 
     def call_uneven(self):
         return uneven(self.bits, self.now[1])
+
+    def call_least(self):
+        return [min((far(a, b) for a in self.now[1] for b in self.now[1] if a != b), default=-33)]
+
+    def near(self, x):
+        """Each word by how far it is from x, the nearest first."""
+        return sorted((far(x, w), w) for w in self.now[1])
+
+    def call_off(self, x):
+        near = self.near(x)
+        return [near[0][0], sum(1 for apart, _ in near if apart == near[0][0])] if near else [-6]
+
+    def call_mend(self, x):
+        near = self.near(x)
+        return [near[0][1]] + self.call_off(x) if near else [-6]
+
+    def call_more(self):
+        found = [x for x in range(2 ** self.bits) if all(far(x, w) >= self.now[0] for w in self.now[1])]
+        return [len(found)] + found
+
+    def call_bound(self):
+        return [min(plain_bounds(self.bits, self.now[0]).values())]
+
+    def call_proves(self, numbers):
+        if len(numbers) != self.bits + 1 or any(number > 1000 for number in numbers):
+            return [-22]
+        if not is_proof(self.bits, self.now[0], numbers):
+            return [-33]
+        bound = Fraction(come_to(self.bits, numbers, 0), numbers[0])
+        return [int(bound)] + told(bound)
+
+    def call_best_proof(self):
+        bound, numbers = best_proof(self.bits, self.now[0])
+        return [int(bound)] + told(bound, *numbers)
+
+    def call_spread(self):
+        together, numbers = greatest_spread(self.bits, self.now[0])
+        return [len(numbers)] + told(*numbers, together)
+
+    def call_held(self):
+        words = self.now[1]
+        if not words:
+            return [-6]
+        return [self.bits + 1] + told(*[Fraction(many, len(words)) for many in twos(self.bits, words)])
+
+    def call_evenly(self, r):
+        often = set(hit(self.bits, self.now[1], r))
+        return list(often) if len(often) == 1 else [-33]
+
+    def call_in_the_way(self, r):
+        found = in_the_way(self.bits, self.now[1], r)
+        return [len(found)] + found
+
+    def call_radius(self):
+        if not self.now[1]:
+            return [-6]
+        return [min(r for r in range(self.bits + 1) if min(hit(self.bits, self.now[1], r)) >= 1)]
+
+    def call_reach(self):
+        return [max(r for r in range(self.bits + 1) if max(hit(self.bits, self.now[1], r)) <= 1)]
+
+    def call_so(self, kind, its):
+        return [int(self.so(self.now[1], kind, its))] if self.is_saying(kind, its) else [-22]
+
+    def call_all_of(self, kind):
+        if kind == 4 or kind > 5:
+            return [-22]
+        numbers = range(2 ** self.bits if kind == 5 else self.bits + 1)
+        found = [number for number in numbers if self.so(self.now[1], kind, [number])]
+        return [len(found)] + found
+
+    def call_report(self):
+        return [len(self.now[2])]
+
+    def call_line(self, i):
+        if i >= len(self.now[2]):
+            return [-2]
+        kind, its = self.now[2][i]
+        return [kind, *its]
+
+    def call_state(self):
+        return [self.bits, self.now[0], len(self.now[1]), len(self.now[2])]

@@ -2,10 +2,9 @@
 
 import unittest
 
-from lines import ask, last, puts
+from lines import TOP, ask, last, puts
 
 BEGIN = ("begin", 3, 2)
-TOP = 2147483647
 
 
 class PutAndTake(unittest.TestCase):

@@ -1,10 +1,11 @@
-"""What holds, points a, c and d, as far as the calls that are there go."""
+"""What holds, points a to d."""
 
 import random
 import unittest
+from fractions import Fraction
 
-from lines import ask, last, puts
-from model import hit, in_the_way, ones, places_of, sums, tilt
+from lines import LOOKS, ask, last, look, puts
+from model import far, hit, in_the_way, ones, places_of, sums, tilt
 
 
 def all_notes(bits):
@@ -30,8 +31,10 @@ def sets_of_words(bits, seed, many):
 
 
 def so(bits, words, note):
-    """Whether a saying is so, told by noting it."""
-    return last(("begin", bits, 1), *puts(*words), note) == [0]
+    """Whether a saying is so, told by noting it, and by asking."""
+    noted, asked = ask(("begin", bits, 1), *puts(*words), note, ("so",) + note[1:])[-2:]
+    assert (noted, asked) in (([0], [1]), ([-13], [0])), (words, note)
+    return noted == [0]
 
 
 class InTheReport(unittest.TestCase):
@@ -67,6 +70,68 @@ class InTheReport(unittest.TestCase):
                         self.assertIn(note[1], may[change[0]], (words, note, change))
 
 
+class ManyChanges(unittest.TestCase):
+    """Point a over many changes: the report stays as it was but for the lines that are struck, and all in it is so."""
+
+    CHANGES = ("put", "put", "put", "take", "rest", "move", "swap", "close", "fill")
+
+    def some_change(self, chance, bits):
+        name = chance.choice(self.CHANGES)
+        if name == "swap":
+            return (name, chance.randrange(bits), chance.randrange(bits))
+        return (name, chance.randrange(2 ** bits)) if name in ("put", "take", "move") else (name,)
+
+    def report(self, calls):
+        many = last(*calls, ("report",))[0]
+        return [last(*calls, ("line", i)) for i in range(many)]
+
+    def test_all_that_stands_is_so(self):
+        for seed in range(60):
+            chance = random.Random(seed)
+            bits = chance.choice((2, 3, 3, 4))
+            calls = [("begin", bits, chance.randint(1, bits))]
+            before = []
+            while len(calls) < 45:
+                calls.append(chance.choice(all_notes(bits)) if chance.random() < 0.6 else self.some_change(chance, bits))
+                answer, lines = last(*calls), self.report(calls)
+                for kind, *its in lines:
+                    self.assertEqual([1], last(*calls, ("so", kind, its)), calls)
+                if calls[-1][0] != "note" and answer[0] >= 0:
+                    struck = [before[i] for i in answer[1:]]
+                    self.assertEqual([line for line in before if line not in struck], lines)
+                    for kind, *its in struck:
+                        self.assertEqual([0], last(*calls, ("so", kind, its)), calls)
+                elif answer[0] < 0:
+                    self.assertEqual(before, lines)
+                before = lines
+
+
+class NoMoreThanTheBound(unittest.TestCase):
+    """Point b."""
+
+    GOALS = [(bits, goal) for bits in range(1, 7) for goal in range(1, bits + 1)]
+
+    def test_filled_from_none(self):
+        for bits, goal in self.GOALS:
+            found = ask(("begin", bits, goal), ("bound",), ("fill",), ("so", 4, []), ("so", 0, [goal]), ("more",))
+            self.assertEqual([found[1], [1], [1], [0]], found[2:], (bits, goal))
+
+    def test_words_so_far_apart(self):
+        for bits, goal in self.GOALS:
+            for seed in range(8):
+                chance = random.Random(100 * bits + 10 * goal + seed)
+                words = []
+                for word in chance.sample(range(2 ** bits), 2 ** bits):
+                    if all(far(word, other) >= goal for other in words) and len(words) < 50:
+                        words.append(word)
+                many, bound, best, spread = ask(("begin", bits, goal), *puts(*words), ("state",), ("bound",),
+                                                ("best_proof",), ("spread",))[-4:]
+                self.assertEqual(len(words), many[2])
+                self.assertLessEqual(many[2], bound[0])
+                self.assertLessEqual(many[2], best[0])
+                self.assertLessEqual(many[2], Fraction(spread[-2], spread[-1]))
+
+
 class WithoutLooking(unittest.TestCase):
     """Point c, each side as the program tells it, and by the model."""
 
@@ -77,6 +142,7 @@ class WithoutLooking(unittest.TestCase):
                     continue
                 strength, told = ask(("begin", bits, 1), *puts(*words), ("strength",), ("sums",))[-2:]
                 self.assertEqual(sums(bits, words), told[1:])
+                self.assertEqual([strength[0] + 1] + list(range(strength[0] + 1)), look(bits, words, "all_of", 1))
                 for t in range(bits + 1):
                     self.assertEqual(not any(told[2:t + 2]), strength[0] >= t, (words, t))
                     self.assertEqual(strength[0] >= t, so(bits, words, ("note", 1, [t])), (words, t))
@@ -98,6 +164,8 @@ class WithoutLooking(unittest.TestCase):
             for r in range(4):
                 evenly = so(3, words, ("note", 3, [r]))
                 self.assertEqual(not in_the_way(3, words, r), evenly, (words, r))
+                self.assertEqual(look(3, words, "in_the_way", r) == [0], look(3, words, "evenly", r) != [-33])
+                self.assertEqual(evenly, look(3, words, "evenly", r) != [-33])
                 self.assertEqual(len(set(hit(3, words, r))) == 1, evenly, (words, r))
 
     def test_hit_evenly_twice(self):
@@ -110,31 +178,48 @@ class WithoutLooking(unittest.TestCase):
 class AsItWas(unittest.TestCase):
     """Point d: what's taken back and done again is as it was."""
 
-    LOOKS = (("words",), ("twos",), ("sums",), ("strength",), ("uneven",))
-
     def looked(self, *calls):
-        """What the looks answer behind the calls, and the goal and the report, by calls that are then refused."""
-        notes = all_notes(3)
-        return (ask(*calls, *self.LOOKS)[-len(self.LOOKS):], last(*calls, ("goal", 1)),
-                [last(*calls, note) for note in notes], last(*calls, ("strike", 0)))
+        """What the looks answer behind the calls, each line of the report, and how far back and again go."""
+        lines = [("line", i) for i in range(8)]
+        looks = ask(*calls, *LOOKS)[-len(LOOKS):] + ask(*calls, *lines)[-8:]
+        return looks, ask(*calls, *[("again",)] * 11)[-11:], ask(*calls, *[("back",)] * 11)[-11:]
+
+    def only_looked(self, *calls):
+        """The same without how far back and again go."""
+        return self.looked(*calls)[0]
+
+    BEGUN = (("begin", 3, 2), *puts(0, 7), ("note", 0, [3]), ("note", 4, []), ("note", 1, [1]), ("note", 2, [1]))
 
     def test_each_change(self):
-        begun = (("begin", 3, 2), *puts(0, 7), ("note", 0, [3]), ("note", 4, []), ("note", 1, [1]), ("note", 2, [1]))
+        before = self.only_looked(*self.BEGUN)
         for change in (("put", 1), ("take", 0), ("rest",), ("move", 1), ("swap", 0, 1), ("close",), ("fill",),
                        ("goal", 3), ("note", 3, [1]), ("strike", 2)):
-            before = self.looked(*begun)
-            behind = self.looked(*begun, change)
-            self.assertEqual(before, self.looked(*begun, change, ("back",)), change)
-            self.assertEqual(behind, self.looked(*begun, change, ("back",), ("again",)), change)
-            self.assertEqual(before, self.looked(*begun, change, ("back",), ("again",), ("back",)), change)
+            behind = self.only_looked(*self.BEGUN, change)
+            self.assertEqual(before, self.only_looked(*self.BEGUN, change, ("back",)), change)
+            self.assertEqual(behind, self.only_looked(*self.BEGUN, change, ("back",), ("again",)), change)
+            self.assertEqual(before, self.only_looked(*self.BEGUN, change, ("back",), ("again",), ("back",)), change)
 
-    def test_refused_changes_nothing(self):
-        begun = (("begin", 3, 2), *puts(0, 7), ("note", 0, [3]), ("note", 4, []), ("note", 1, [1]), ("note", 2, [1]))
-        before = self.looked(*begun)
-        for call in (("begin", 3, 4), ("put", 7), ("put", 8), ("take", 1), ("take", 8), ("move", 8), ("swap", 0, 3),
-                     ("goal", 0), ("goal", 4), ("note", 0, [4]), ("note", 0, []), ("note", 6, []), ("note", 1, [2]),
-                     ("note", 4, []), ("strike", 4), ("again",), ("tilt", 8), *self.LOOKS, ("tilt", 7)):
-            self.assertEqual(before, self.looked(*begun, call), call)
+    def test_many_changes(self):
+        changes = (("put", 1), ("note", 5, [0]), ("rest",), ("move", 1), ("swap", 0, 1), ("goal", 3), ("close",),
+                   ("take", 0), ("fill",), ("strike", 0))
+        looked = [self.only_looked(*self.BEGUN, *changes[:many]) for many in range(11)]
+        backs = []
+        for many in range(1, 11):
+            backs.append(("back",))
+            self.assertEqual(looked[10 - many], self.only_looked(*self.BEGUN, *changes, *backs), many)
+        for many in range(1, 11):
+            backs.append(("again",))
+            self.assertEqual(looked[many], self.only_looked(*self.BEGUN, *changes, *backs), many)
+
+    def test_what_is_refused_and_looking_change_nothing(self):
+        refused = (("begin", 3, 4), ("put", 7), ("put", 8), ("take", 1), ("take", 8), ("move", 8), ("swap", 0, 3),
+                   ("goal", 0), ("goal", 4), ("note", 0, [4]), ("note", 0, []), ("note", 6, []), ("note", 1, [2]),
+                   ("note", 4, []), ("strike", 4))
+        for begun in (self.BEGUN, self.BEGUN + (("put", 3), ("goal", 1), ("back",), ("back",))):
+            before = self.looked(*begun)
+            for call in refused + LOOKS:
+                self.assertEqual(before, self.looked(*begun, call), call)
+        self.assertEqual(self.looked(*self.BEGUN), self.looked(*self.BEGUN, ("again",)))
 
 
 if __name__ == "__main__":

@@ -1,11 +1,10 @@
-"""Promise 3, as far as goal, note and strike, and each kind of saying."""
+"""Promise 3: goal, note, strike, so, all_of, report, line and state, and each kind of saying."""
 
 import unittest
 
-from lines import ask, last, puts
+from lines import TOP, ask, last, look, puts
 
 BEGIN = ("begin", 3, 2)
-TOP = 2147483647
 
 
 class Goal(unittest.TestCase):
@@ -97,6 +96,117 @@ class Strike(unittest.TestCase):
         found = ask(BEGIN, ("put", 0), ("note", 4, []), ("note", 0, [3]), ("note", 1, [0]), ("strike", 1), ("back",),
                     ("put", 1), ("strike", 1), ("note", 1, [0]))
         self.assertEqual([[2], [4], [2, 1], [1], [1]], found[5:])
+
+
+class So(unittest.TestCase):
+    def test_so_and_not(self):
+        two = [0, 1]
+        for saying in ((0, [1]), (1, [0]), (2, [2]), (3, [3]), (4, []), (5, [1])):
+            self.assertEqual([1], look(3, two, "so", *saying), saying)
+        for saying in ((0, [2]), (1, [1]), (2, [1]), (3, [2]), (5, [2])):
+            self.assertEqual([0], look(3, two, "so", *saying), saying)
+        self.assertEqual([0], look(3, [1, 2], "so", 4, []))
+
+    def test_refused_as_note(self):
+        for bits in range(1, 7):
+            for kind in (0, 1, 2, 3):
+                for its in ([], [bits + 1], [TOP]):
+                    self.assertEqual([-22], look(bits, [0], "so", kind, its))
+                self.assertIn(look(bits, [0], "so", kind, [bits]), ([0], [1]))
+            for its in ([], [2 ** bits], [TOP]):
+                self.assertEqual([-22], look(bits, [0], "so", 5, its))
+            self.assertEqual([0], look(bits, [0], "so", 5, [2 ** bits - 1]))
+            self.assertEqual([-22], look(bits, [0], "so", 4, [0]))
+            for kind in (6, 7, TOP):
+                for its in ([], [0], [1]):
+                    self.assertEqual([-22], look(bits, [0], "so", kind, its))
+
+    def test_it_is_not_noted(self):
+        found = ask(BEGIN, ("so", 4, []), ("report",), ("note", 4, []), ("so", 4, []), ("report",))
+        self.assertEqual([[1], [0], [0], [1], [1]], found[1:])
+
+    def test_it_is_so_with_eight_lines_too(self):
+        eight = [("note", kind, [number]) for kind in (0, 1) for number in range(4)]
+        self.assertEqual([1], last(BEGIN, *eight, ("so", 4, [])))
+
+
+class AllOf(unittest.TestCase):
+    def test_of_numbers(self):
+        self.assertEqual([3, 0, 1, 2], look(3, [0, 3, 5, 6], "all_of", 0))
+        self.assertEqual([2, 0, 1], look(3, [1, 6], "all_of", 1))
+        self.assertEqual([2, 2, 3], look(3, [4, 5], "all_of", 2))
+        self.assertEqual([2, 1, 3], look(3, [0, 1, 6, 7], "all_of", 3))
+
+    def test_of_sets_of_places(self):
+        self.assertEqual([4, 0, 1, 2, 4], look(3, [0, 7], "all_of", 5))
+        self.assertEqual([4, 0, 1, 2, 3], look(3, [0, 1, 2, 3], "all_of", 5))
+        self.assertEqual([1, 0], look(3, [5], "all_of", 5))
+
+    def test_no_words_and_all_words(self):
+        for bits in range(1, 7):
+            numbers = list(range(bits + 1))
+            places = list(range(2 ** bits))
+            for kind in (0, 1, 3):
+                self.assertEqual([bits + 1] + numbers, look(bits, [], "all_of", kind))
+            self.assertEqual([0], look(bits, [], "all_of", 2))
+            self.assertEqual([2, 0, 1], look(bits, places, "all_of", 0))
+            for kind in (1, 2, 3):
+                self.assertEqual([bits + 1] + numbers, look(bits, places, "all_of", kind))
+            for words in ([], places):
+                self.assertEqual([2 ** bits] + places, look(bits, words, "all_of", 5))
+
+    def test_refused(self):
+        for kind in (4, 6, 7, TOP):
+            self.assertEqual([-22], look(3, [], "all_of", kind))
+            self.assertEqual([-22], look(3, [0, 7], "all_of", kind))
+
+    def test_just_those_that_so_says(self):
+        for words in ([], [3], [0, 7], [1, 2, 4, 7], [0, 1, 2]):
+            for kind in (0, 1, 2, 3, 5):
+                numbers = range(8 if kind == 5 else 4)
+                found = [number for number in numbers if look(3, words, "so", kind, [number]) == [1]]
+                self.assertEqual([len(found)] + found, look(3, words, "all_of", kind))
+
+
+class Lines(unittest.TestCase):
+    def test_each_line_as_it_was_noted(self):
+        notes = [("note", 5, [3]), ("note", 4, []), ("note", 0, [3]), ("note", 1, [0]), ("note", 3, [2]), ("note", 2, [3])]
+        found = ask(BEGIN, ("report",), ("put", 1), ("take", 1), *notes[:5], ("put", 0), ("back",), ("report",),
+                    *[("line", i) for i in range(6)])
+        self.assertEqual([0], found[1])
+        self.assertEqual([[5], [5, 3], [4], [0, 3], [1, 0], [3, 2], [-2]], found[-7:])
+        self.assertEqual([[0], [1], [2, 3]], ask(BEGIN, ("put", 0), notes[5], ("report",), ("line", 0))[2:])
+
+    def test_no_such_line(self):
+        self.assertEqual([[-2], [-2], [0], [4], [-2], [-2]],
+                         ask(BEGIN, ("line", 0), ("line", TOP), ("note", 4, []), ("line", 0), ("line", 1),
+                             ("line", TOP))[1:])
+
+    def test_those_behind_are_numbered_one_less(self):
+        notes = (("note", 0, [3]), ("note", 4, []), ("note", 1, [3]))
+        self.assertEqual([[2], [2], [0, 3], [1, 3], [-2]],
+                         ask(BEGIN, *notes, ("strike", 1), ("report",), *[("line", i) for i in range(3)])[4:])
+
+    def test_behind_lines_that_are_struck(self):
+        found = ask(BEGIN, *puts(0, 7), ("note", 1, [1]), ("note", 0, [3]), ("note", 2, [1]), ("note", 4, []), ("rest",),
+                    ("report",), ("line", 0), ("line", 1), ("back",), ("report",), *[("line", i) for i in range(4)])
+        self.assertEqual([[6, 1, 3], [2], [1, 1], [2, 1], [6], [4], [1, 1], [0, 3], [2, 1], [4]], found[7:])
+
+    def test_eight_lines(self):
+        eight = [("note", kind, [number]) for kind in (0, 1) for number in range(4)]
+        found = ask(BEGIN, *eight, ("report",), ("line", 7), ("line", 8), ("note", 4, []), ("report",))
+        self.assertEqual([[8], [1, 3], [-2], [-28], [8]], found[9:])
+
+
+class State(unittest.TestCase):
+    def test_all_that_is_there(self):
+        found = ask(("begin", 5, 3), ("state",), *puts(0, 31), ("state",), ("note", 4, []), ("note", 0, [5]), ("state",),
+                    ("goal", 2), ("state",), ("put", 1), ("state",), ("back",), ("state",), ("begin", 6, 6), ("state",))
+        self.assertEqual([[5, 3, 0, 0], [5, 3, 2, 0], [5, 3, 2, 2], [5, 2, 2, 2], [5, 2, 3, 0], [5, 2, 2, 2],
+                          [6, 6, 0, 0]], found[1:2] + found[4:5] + found[7:8] + found[9::2])
+
+    def test_all_words(self):
+        self.assertEqual([6, 1, 64, 0], look(6, range(64), "state"))
 
 
 class Sayings(unittest.TestCase):
