@@ -14,6 +14,14 @@ def all_notes(bits):
     return numbered + [("note", 4, [])] + [("note", 5, [u]) for u in range(2 ** bits)]
 
 
+def some_change(chance, bits):
+    """A change of words."""
+    name = chance.choice(("put", "put", "put", "take", "rest", "move", "swap", "close", "fill"))
+    if name == "swap":
+        return (name, chance.randrange(bits), chance.randrange(bits))
+    return (name, chance.randrange(2 ** bits)) if name in ("put", "take", "move") else (name,)
+
+
 def sets_of_words(bits, seed, many):
     """Some sets of words, the closed and the odd ones among them."""
     chance = random.Random(seed)
@@ -73,14 +81,6 @@ class InTheReport(unittest.TestCase):
 class ManyChanges(unittest.TestCase):
     """Point a over many changes: the report stays as it was but for the lines that are struck, and all in it is so."""
 
-    CHANGES = ("put", "put", "put", "take", "rest", "move", "swap", "close", "fill")
-
-    def some_change(self, chance, bits):
-        name = chance.choice(self.CHANGES)
-        if name == "swap":
-            return (name, chance.randrange(bits), chance.randrange(bits))
-        return (name, chance.randrange(2 ** bits)) if name in ("put", "take", "move") else (name,)
-
     def report(self, calls):
         many = last(*calls, ("report",))[0]
         return [last(*calls, ("line", i)) for i in range(many)]
@@ -92,7 +92,7 @@ class ManyChanges(unittest.TestCase):
             calls = [("begin", bits, chance.randint(1, bits))]
             before = []
             while len(calls) < 45:
-                calls.append(chance.choice(all_notes(bits)) if chance.random() < 0.6 else self.some_change(chance, bits))
+                calls.append(chance.choice(all_notes(bits)) if chance.random() < 0.6 else some_change(chance, bits))
                 answer, lines = last(*calls), self.report(calls)
                 for kind, *its in lines:
                     self.assertEqual([1], last(*calls, ("so", kind, its)), calls)
@@ -175,6 +175,38 @@ class WithoutLooking(unittest.TestCase):
         self.assertFalse(so(3, words, ("note", 3, [0])))
 
 
+class WithoutLookingOverMany(unittest.TestCase):
+    """Point c for every number of bits, each side as the program tells it."""
+
+    def hold(self, bits, words):
+        begun = (("begin", bits, 1), *(puts(*words) if len(words) < 2 ** bits else [("rest",)]))
+        told, strong, even = ask(*begun, ("sums",), ("all_of", 1), ("all_of", 5))[-3:]
+        self.assertEqual([t for t in range(bits + 1) if not any(told[2:t + 2])], strong[1:], words)
+        tilts = [last(*begun, ("tilt", u))[1] for u in range(2 ** bits)]
+        free = [u for u in range(2 ** bits) if not any(tilts[v] for v in range(1, 2 ** bits) if v & u == v)]
+        self.assertEqual(free, even[1:], words)
+        for r in range(bits + 1):
+            often, way, said = ask(*begun, ("evenly", r), ("in_the_way", r), ("so", 3, [r]))[-3:]
+            self.assertEqual(way == [0], often != [-33], (words, r))
+            self.assertEqual(said == [1], often != [-33], (words, r))
+
+    def test_all_words_of_few_bits(self):
+        for bits in (1, 2, 3):
+            for chosen in range(2 ** 2 ** bits):
+                self.hold(bits, [word for word in range(2 ** bits) if chosen >> word & 1])
+
+    def test_more_bits(self):
+        for bits in (4, 5, 6):
+            for words in sets_of_words(bits, 19 + bits, 4):
+                if len(words) < 55 or len(words) == 2 ** bits:
+                    self.hold(bits, words)
+
+    def test_filled(self):
+        for bits in range(1, 7):
+            for goal in range(1, bits + 1):
+                self.hold(bits, last(("begin", bits, goal), ("fill",), ("words",))[1:])
+
+
 class AsItWas(unittest.TestCase):
     """Point d: what's taken back and done again is as it was."""
 
@@ -210,6 +242,22 @@ class AsItWas(unittest.TestCase):
         for many in range(1, 11):
             backs.append(("again",))
             self.assertEqual(looked[many], self.only_looked(*self.BEGUN, *changes, *backs), many)
+
+    def test_over_many_lists_of_calls(self):
+        for seed in range(25):
+            chance = random.Random(500 + seed)
+            calls = [("begin", 3, chance.randint(1, 3))]
+            looked = [self.only_looked(*calls)]
+            while len(calls) < 12:
+                change = chance.choice(all_notes(3)) if chance.random() < 0.4 else some_change(chance, 3)
+                if last(*calls, change)[0] >= 0:
+                    calls.append(change)
+                    looked.append(self.only_looked(*calls))
+            many = chance.randint(1, 10)
+            backs = [("back",)] * many
+            agains = [("again",)] * chance.randint(0, many)
+            place = len(calls) - 1 - many + len(agains)
+            self.assertEqual(looked[place], self.only_looked(*calls, *backs, *agains), calls)
 
     def test_what_is_refused_and_looking_change_nothing(self):
         refused = (("begin", 3, 4), ("put", 7), ("put", 8), ("take", 1), ("take", 8), ("move", 8), ("swap", 0, 3),
